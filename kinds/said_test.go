@@ -202,8 +202,8 @@ func saidWhole(e api.Expr, l []saidType) saidType {
 		return saidType{elem: makes}
 	case api.XMap:
 		stopIf(len(l) != n, api.ErrCount)
-		for _, t := range l {
-			stopIf(!t.isArrayOf(takes) || !saidSameSize(t.n, l[0].n), api.ErrType)
+		for i, t := range l {
+			stopIf(!t.isArrayOf(takes) || i == 1 && !saidSameSize(t.n, l[0].n), api.ErrType)
 		}
 		return saidType{makes, true, l[0].n}
 	case api.XFold, api.XScan:
