@@ -4,7 +4,6 @@ import (
 	"slices"
 
 	"loomwork/api"
-	"loomwork/size"
 )
 
 func isArray(t api.Type) bool { return len(t.N) > 0 }
@@ -119,13 +118,15 @@ func isPlace(l []api.Type) bool {
 	return isArray(l[0]) && isScalarOf(l[1], 'i') && isScalarOf(l[2], l[0].Elem)
 }
 
+// typeOfCat keeps the sum's terms as they are: what they come to in a normal form
+// may be an N that has no normal form of its own.
 func typeOfCat(a, b api.Type) (api.Type, int) {
 	if !isArray(a) || !isArrayOf(b, a.Elem) {
 		return api.Type{}, api.ErrType
 	}
-	n, fault := size.Norm(slices.Concat(a.N, b.N))
-	if fault.Code != 0 {
-		return api.Type{}, api.ErrRange
+	n := slices.Concat(a.N, b.N)
+	if code := codeOfRange(n); code != 0 {
+		return api.Type{}, code
 	}
 	return arrayOf(a.Elem, n), 0
 }

@@ -2,6 +2,7 @@ package kinds
 
 import (
 	"fmt"
+	"slices"
 	"testing"
 
 	"loomwork/api"
@@ -235,19 +236,89 @@ func TestSizeWithoutTerms(t *testing.T) {
 	}
 }
 
-// P5.1: a sum of sizes that has no normal form. What a cat makes has the normal
-// form of its sum as its size, and that may lie beyond.
+// P5.1: the size of a cat is its parts' sizes' sum, whose terms are within the
+// range, whatever they come to.
+func TestCatSums(t *testing.T) {
+	const inputs = "a: int^1000000, b: int^-1000000, c: int^1000000*n, d: bool^1000000, p: int^1000000 + 1000000"
+	node := func(y, e string) string { return sized(inputs, "y: int^"+y, "y = "+e+";") }
+	for _, right := range []struct{ y, e string }{
+		{"1000000 + 1000000", "cat(a, a)"},
+		{"500000 + 1000000 + 500000", "cat(a, a)"},
+		{"1000000 + 1000000", "p"},
+		{"1000000 + 1000000 + 1000000", "cat(cat(a, a), a)"},
+		{"1000000 + 1000000 + 1000000", "cat(a, cat(a, a))"},
+		{"1000000 + 1000000 + 1000000", "cat(p, a)"},
+		{"1000000 + 1000000 + 1000000 + 1000000", "cat(cat(a, a), cat(a, a))"},
+		{"1000000 + 1000000 + 1000000 + 1000000", "cat(p, cat(a, a))"},
+		{"-1000000 - 1000000 - 1000000", "cat(b, cat(b, b))"},
+		{"1000000*n + 1000000*n - 1000000", "cat(cat(c, c), b)"},
+		{"1000000*n + 1000000 + 1000000*n", "cat(cat(a, cat(c, c)), fill(0, 0))"},
+		{"1000000", "cat(cat(a, a), b)"},
+		{"1000000", "cat(b, p)"},
+		{"0", "cat(cat(a, a), cat(b, b))"},
+		{"1000000 + 1000000", "map(neg, cat(a, a))"},
+		{"1000000 + 1000000", "map(add, cat(a, a), cat(a, a))"},
+		{"1000000 + 1000000", "map(add, p, cat(a, a))"},
+		{"1000000 + 1000000", "map(add, cat(a, a), fill(1, 1000000 + 1000000))"},
+		{"1000000 + 1000000", "scan(add, 0, cat(a, a))"},
+		{"1000000 + 1000000", "if true then cat(a, a) else p"},
+		{"1000000 + 1000000", "if true then p else cat(a, a)"},
+		{"1000000 + 1000000", "with(cat(a, a), 0, 1)"},
+		{"1000000 + 1000000", "pre(cat(a, a), cat(a, a))"},
+		{"1", "slice(cat(a, a), 0, 1)"},
+		{"1", "fill(fold(add, 0, cat(a, a)), 1)"},
+		{"1", "fill(cat(a, a)[0 : 1], 1)"},
+	} {
+		wantRight(t, node(right.y, right.e))
+		wantWrong(t, node(right.y+" + 1", right.e), api.ErrType, 0)
+		wantWrong(t, node(right.y+" + n", right.e), api.ErrType, 0)
+	}
+	wantWrong(t, node("0", "cat(cat(a, a), d)"), api.ErrType, 0)
+	wantWrong(t, node("0", "cat(cat(a, a), 0)"), api.ErrType, 0)
+	wantWrong(t, node("0", "map(add, cat(a, a), a)"), api.ErrType, 0)
+	wantWrong(t, node("0", "map(add, cat(a, a), cat(a, p))"), api.ErrType, 0)
+	wantWrong(t, node("0", "pre(cat(a, a), cat(b, b))"), api.ErrType, 0)
+}
+
+// P5.1: such a sum as what is given to a call, and as what a call makes.
+func TestCatSumsOfCalls(t *testing.T) {
+	const text = "node f<n>(a: int^n) -> (b: int^n) { b = a; } node main(a: int^1000000) -> (b: int^1000000 + 1000000) { b = call f<1000000 + 1000000>(cat(a, a)); }"
+	wantRight(t, text)
+	for _, c := range []change{
+		{"b: int^1000000 + ", "b: int^1000000 - ", api.ErrType, 1},
+		{"f<1000000 + ", "f<999999 + ", api.ErrType, 1},
+		{"cat(a, a)", "cat(a, cat(a, a))", api.ErrType, 1},
+		{"cat(a, a)", "a", api.ErrType, 1},
+	} {
+		other, _ := c.made(text)
+		wantWrong(t, other, c.code, c.at)
+	}
+	wantRight(t, "node f<n>(a: int^n) -> (b: int^n + n) { b = cat(a, a); } node main(a: int^1000000) -> (b: int^1000000 + 1000000) { b = call f<1000000>(a); }")
+}
+
+// P5.1: a sum without a normal form. No program that may stand as a text has
+// parts of so many terms.
 func TestCatRange(t *testing.T) {
-	node := func(e string) string {
-		return sized("a: int^1000000, b: int^-1000000, c: int^1000000*n, d: bool^1000000, p: int^1000000 + 1000000", "y: int", "y = fold(add, 0, "+e+");")
+	terms := func(elem byte, count int) api.Type {
+		return api.Type{Elem: elem, N: slices.Repeat(sum(1, "n"), count)}
 	}
-	for _, e := range []string{"cat(a, a)", "cat(a, b)", "cat(cat(a, b), a)", "cat(cat(a, c), b)", "cat(p, p)", "cat(p, a)", "cat(cat(a, b), cat(a, b))", "map(neg, cat(a, a))"} {
-		wantRight(t, node(e))
+	if got, code := typeOfCat(terms('i', 600), terms('i', 400)); code != 0 || !Same(got, terms('i', 1000)) {
+		t.Errorf("1000 terms: code %d, %d terms of %q", code, len(got.N), got.Elem)
 	}
-	for _, e := range []string{"cat(cat(a, a), a)", "cat(b, cat(b, b))", "cat(cat(c, c), b)", "cat(cat(a, a), b)", "cat(cat(a, cat(c, c)), fill(0, 0))"} {
-		wantWrong(t, node(e), api.ErrRange, 0)
+	for _, l := range [][2]api.Type{{terms('i', 600), terms('i', 401)}, {terms('b', 1), terms('b', 1000)}} {
+		if got, code := typeOfCat(l[0], l[1]); code != api.ErrRange || got.Elem != 0 || got.N != nil {
+			t.Errorf("1001 terms: code %d, %d terms of %q", code, len(got.N), got.Elem)
+		}
 	}
-	wantWrong(t, node("cat(cat(a, a), d)"), api.ErrType, 0) // told ahead of the sum
-	wantWrong(t, node("cat(cat(a, a), 0)"), api.ErrType, 0)
-	wantWrong(t, node("cat(cat(cat(a, a), a), d)"), api.ErrRange, 0)
+	if _, code := typeOfCat(terms('i', 600), terms('b', 600)); code != api.ErrType { // told ahead of the sum
+		t.Errorf("1200 terms of other cells: code %d", code)
+	}
+}
+
+// P5.1: a size that is put in and has no terms is 0.
+func TestPutInNone(t *testing.T) {
+	got, code := putIn([]string{"n"}, []api.Size{{}})(api.Decl{T: api.Type{Elem: 'b', N: sum(2, "n")}})
+	if code != 0 || !Same(got, api.Type{Elem: 'b', N: sum(0, "")}) {
+		t.Errorf("code %d, %v", code, got)
+	}
 }

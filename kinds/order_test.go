@@ -132,7 +132,7 @@ func TestOrderOfExpressions(t *testing.T) {
 	wantWrong(t, whole("map(neg, b, a)"), api.ErrCount, 0)
 	wantWrong(t, whole("map(add, b)"), api.ErrCount, 0)
 	wantWrong(t, whole("fold(less, b, slice(a, 1, q))"), api.ErrNone, 0)
-	wantWrong(t, whole("if 1 then b else cat(cat(p, p), p)"), api.ErrRange, 0)
+	wantWrong(t, whole("if 1 then b else cat(p, fill(0, 1000001))"), api.ErrRange, 0)
 	wantWrong(t, whole("if 1 + b then q else a"), api.ErrType, 0)
 	wantWrong(t, whole("b[q : map(neg, a, a)]"), api.ErrNone, 0)
 	wantWrong(t, whole("b[map(neg, a, a) : q]"), api.ErrCount, 0)

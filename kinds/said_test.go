@@ -226,13 +226,10 @@ func saidWhole(e api.Expr, l []saidType) saidType {
 		return saidType{l[0].elem, true, e.S[1]}
 	case api.XCat:
 		stopIf(!l[0].isArray || !l[1].isArrayOf(l[0].elem), api.ErrType)
-		sums, is := saidNorm(slices.Concat(l[0].n, l[1].n))
+		sum := slices.Concat(l[0].n, l[1].n)
+		_, is := saidNorm(sum)
 		stopIf(!is, api.ErrRange)
-		t := saidType{elem: l[0].elem, isArray: true}
-		for name, sum := range sums {
-			t.n = append(t.n, api.Term{N: sum, Name: name})
-		}
-		return t
+		return saidType{l[0].elem, true, sum}
 	}
 	stopIf(!l[0].is(l[1]), api.ErrType)
 	return l[1]

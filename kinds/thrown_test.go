@@ -11,11 +11,13 @@ import (
 )
 
 // thrower throws programs, most of whose nodes are right; one thing in rare is
-// thrown without a look at what must stand there.
+// thrown without a look at what must stand there. Large sizes have sums that lie
+// beyond what a term may be.
 type thrower struct {
 	dice
-	rare int
-	node api.Node
+	rare  int
+	large bool
+	node  api.Node
 }
 
 func (th *thrower) slips() bool { return th.below(th.rare) == 0 }
@@ -43,6 +45,9 @@ func (th *thrower) size() api.Size {
 	out := api.Size{}
 	for range 1 + th.below(2) {
 		t := api.Term{N: int64(th.below(5)), Name: pick(&th.dice, append([]string{""}, th.node.Sizes...))}
+		if th.large && th.below(2) == 0 {
+			t.N = pick(&th.dice, []int64{1000000, 1000000, 999999, 600000, -1000000})
+		}
 		if th.slips() {
 			t.N = pick(&th.dice, []int64{-1, 1000000, -1000000, 1000001, -1000001, 500000})
 		}
@@ -190,7 +195,6 @@ func (th *thrower) call(above []api.Node) {
 	}
 	put := func(d api.Decl) api.Type {
 		n, _ := size.With(d.T.N, called.Sizes, q.S)
-		n, _ = size.Norm(n)
 		if len(d.T.N) > 0 {
 			n = th.rewritten(n)
 		}
@@ -290,7 +294,7 @@ func (th *thrower) program() api.Program {
 func TestThrown(t *testing.T) {
 	told := map[int]int{}
 	for i := range 20000 {
-		th := &thrower{dice: dice(i), rare: []int{1 << 30, 1000, 150, 20}[i%4]}
+		th := &thrower{dice: dice(i), rare: []int{1 << 30, 1000, 150, 20}[i%4], large: i%12 < 4}
 		p := th.program()
 		want := saidCheck(p)
 		if got := Check(p); got != want {
