@@ -59,6 +59,27 @@ func TestSizesDeclaredInCalls(t *testing.T) {
 	wantBounds(t, ahead+"node g<n>(x: int) -> (y: int) { var w: int^3*n - 10; w = w; y = x; } "+calls, -4, []int{3, 102}, []int{0, 1, 2, 103, 299})
 }
 
+// P6: inputs and outputs of a node that is called are reckoned, too. (Since they
+// have the sizes of what they are called with, no program comes to such a fault.)
+func TestSizesOfInputsInCalls(t *testing.T) {
+	p := parsed(t, ahead+"node f<n, m>(a: int, b: int^n) -> (c: int^m, d: int) { c = c; d = a; }")
+	for _, c := range []struct{ n, m, code, at int }{
+		{1, 1, 0, 0},
+		{300, 300, 0, 0},
+		{0, 1, api.ErrSize, -4},
+		{301, 1, api.ErrSize, -4},
+		{1, 0, api.ErrSize, -4},
+		{1, 301, api.ErrSize, -4},
+	} {
+		f := (&growth{nodes: p.Nodes}).frameOf("f", []int{c.n, c.m})
+		f.vars = types("i i1 i1 i")
+		got := caught(func() { f.unroll([]int{0, 1}, []int{2, 3}) })
+		if got != (api.Fault{Code: c.code, At: c.at}) {
+			t.Errorf("with %d and %d: fault %v, want {%d %d}", c.n, c.m, got, c.code, c.at)
+		}
+	}
+}
+
 // P6: XFill's size is from 1 to MaxArray.
 func TestSizesOfFill(t *testing.T) {
 	wantBounds(t, ahead+"node main(x: int) -> (y: int, z: int) { y = x; z = fold(add, 0, fill(x, #)); }", 6, arrays, noArrays)
